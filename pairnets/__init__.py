@@ -1,0 +1,1 @@
+"""Netrules: nets that rewrite themselves pair by pair."""

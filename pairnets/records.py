@@ -3,6 +3,8 @@
 PORTS_APART = 4
 FIRST_NAME = 256
 NAME_COUNT = 16
+# Told in place of a point where there is none.
+NOTHING = 999
 
 
 class Record:
@@ -42,3 +44,15 @@ def is_point(record, point):
     if agent not in record.agents:
         return False
     return point % PORTS_APART <= record.more_ports[record.agents[agent]]
+
+
+def joined_to(record, point):
+    return record.joined.get(point, NOTHING)
+
+
+def is_whole(record):
+    for agent in record.agents:
+        for j in range(1 + record.more_ports[record.agents[agent]]):
+            if PORTS_APART * agent + j not in record.joined:
+                return False
+    return True

@@ -49,6 +49,9 @@ def tell_pairs(record):
 
 # A pair is told by its lower agent: the higher one of the two is no pair.
 def is_pair(record, agent):
+    # Asked first, since what would be the first port of agent 64 is a name.
+    if agent not in record.agents:
+        return False
     first_port = PORTS_APART * agent
     if first_port not in record.joined:
         return False
